@@ -1,0 +1,1 @@
+"""Restlots: numbers whose rests lie in told lots."""

@@ -1,0 +1,72 @@
+"""The form that every file of the package keeps, as far as a short test can see it."""
+
+import ast
+import builtins
+import pathlib
+import unittest
+
+PACKAGE = pathlib.Path(__file__).resolve().parent.parent / "restlots"
+
+LIBRARY = {"heapq": {"heappush", "heappop", "heapify", "heapreplace", "heappushpop"},
+           "math": {"gcd", "lcm", "isqrt", "comb", "perm", "factorial"},
+           "itertools": {"product", "combinations", "permutations", "chain", "accumulate", "pairwise", "islice",
+                         "zip_longest"},
+           "collections": {"defaultdict"}}
+
+BUILTINS = set("""len range enumerate zip min max sum abs sorted reversed int str bool list tuple dict set isinstance
+    ord repr any all divmod pow map iter next super property ValueError KeyError ZeroDivisionError""".split())
+
+
+def package_files():
+    return sorted(PACKAGE.rglob("*.py"))
+
+
+def nodes(path):
+    return list(ast.walk(ast.parse(path.read_text("utf-8"))))
+
+
+def is_float(node):
+    return isinstance(node, ast.Div) or isinstance(node, ast.Constant) and isinstance(node.value, float)
+
+
+class FormTest(unittest.TestCase):
+
+    def test_the_folder_holds_nothing_else(self):
+        self.assertTrue((PACKAGE / "__init__.py").is_file())
+        for path in PACKAGE.rglob("*"):
+            if "__pycache__" not in path.parts:
+                self.assertEqual(path.suffix, ".py", path)
+
+    def test_characters_and_sizes(self):
+        for path in package_files():
+            text = path.read_text("utf-8")
+            self.assertEqual([one for one in text if one != "\n" and not " " <= one <= "~"], [], path)
+            self.assertLessEqual(len(text.split("\n")), 399, path)
+            self.assertLessEqual(max(len(line) for line in text.split("\n")), 120, path)
+
+    def test_functions_are_short(self):
+        for path in package_files():
+            for node in nodes(path):
+                if isinstance(node, ast.FunctionDef):
+                    self.assertLessEqual(node.end_lineno - node.lineno + 1, 40, (path, node.name))
+
+    def test_imports_are_of_the_package_or_allowed(self):
+        for path in package_files():
+            for node in nodes(path):
+                self.assertNotIsInstance(node, ast.Import, path)
+                if isinstance(node, ast.ImportFrom) and not node.module.startswith("restlots."):
+                    self.assertLessEqual({one.name for one in node.names}, LIBRARY[node.module], path)
+
+    def test_builtins_are_allowed(self):
+        for path in package_files():
+            for node in nodes(path):
+                if isinstance(node, ast.Name) and hasattr(builtins, node.id):
+                    self.assertIn(node.id, BUILTINS, (path, node.lineno))
+
+    def test_no_floats(self):
+        for path in package_files():
+            self.assertEqual([node for node in nodes(path) if is_float(node)], [], path)
+
+
+if __name__ == "__main__":
+    unittest.main()
