@@ -69,9 +69,18 @@ class Sieve:
         return self._classes
 
 
+def lets_through(sieve, number):
+    """Tell whether an integer, however great, fits."""
+    for modulus, lot in sieve.bars:
+        if number % modulus not in lot:
+            return False
+    return True
+
+
 def fits(sieve, number):
     """Tell whether the number fits."""
-    return broken(sieve, number) == []
+    check_number(number)
+    return lets_through(sieve, number)
 
 
 def broken(sieve, number):

@@ -1,7 +1,7 @@
 """Fitting numbers in stretches: counted, numbered, the next and the last ones, and the steps between them."""
 
-from restlots.checks import check_number, integer_within, is_number
-from restlots.errors import BadNumber, BadStretch, Nothing, TooMany
+from restlots.checks import check_number, check_some, integer_within, is_number
+from restlots.errors import BadNumber, BadStretch, TooMany
 
 GREATEST_INDEX = 10 ** 30
 MOST_LISTED = 500
@@ -34,12 +34,6 @@ def standing_at(sieve, place):
     """Return the fitting number at a place; some number fits."""
     wholes, index = divmod(place, len(sieve.classes))
     return wholes * sieve.whole + sieve.classes[index]
-
-
-def check_some(sieve):
-    """Raise Nothing if no number fits."""
-    if sieve.classes == ():
-        raise Nothing("no number fits")
 
 
 def check_stretch(begin, end):

@@ -2,6 +2,7 @@
 
 from itertools import combinations, product
 
+from restlots.errors import RestError
 from restlots.sieves import Sieve
 
 # Pairwise without a common measure, and their products stand closely below and above 10 ** 30.
@@ -52,3 +53,34 @@ def greatest_sieve():
 def full(modulus):
     """The bar of this modulus whose lot has all rests."""
     return (modulus, tuple(range(modulus)))
+
+
+def sample_sieves():
+    """All sieves of small_rows."""
+    return [Sieve(bars) for bars in small_rows()]
+
+
+def mixed_sieves():
+    """Few sieves of many kinds, for tests that take two of them."""
+    rows = [(), ((1, (0,)),), ((1, ()),), ((2, (0,)),), ((2, (1,)),), (full(2),), ((3, (1,)),), ((3, (0, 2)),)]
+    rows.extend([((4, (1, 2)),), ((4, (1, 3)),), (full(4), full(6)), ((6, (0, 3)),), ((6, (1, 4)), (4, (1, 2)))])
+    rows.extend([((4, (1, 2)), (6, (1, 4))), ((12, (1, 10)),), ((4, (1, 2)), (4, (1, 2))), ((5, (0, 4)), (2, (1,)))])
+    rows.extend([((4, (0, 2)), (6, (1, 3, 5))), ((6, ()), (5, (1,))), ((8, (0, 5)), (12, (0, 1, 5))), ((9, (4, 8)),)])
+    rows.extend([((15, (2, 7)), (10, (2, 7))), ((7, (6,)),), ((20, (19,)),), ((20, (0, 10)), (8, (0, 2)))])
+    return [Sieve(bars) for bars in rows]
+
+
+def knotted_sieve():
+    """A sieve of thirty figures whose last bar is told by the first one, in part."""
+    lots = [(3, 500007, 10, 11, 12), (0, 1, 2, 3, 4), (5, 6, 7, 8), (1, 2), (8, 9), (3, 7, 10, 20, 30)]
+    moduli = (1000000, 999999, 999997, 999991, 999989, 500000)
+    return Sieve(tuple((modulus, tuple(sorted(lot))) for modulus, lot in zip(moduli, lots)))
+
+
+def refused(function, *arguments):
+    """Return the class of the error that a call raises, None if it raises none."""
+    try:
+        function(*arguments)
+    except RestError as error:
+        return error.__class__
+    return None

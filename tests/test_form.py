@@ -16,6 +16,17 @@ LIBRARY = {"heapq": {"heappush", "heappop", "heapify", "heapreplace", "heappushp
 BUILTINS = set("""len range enumerate zip min max sum abs sorted reversed int str bool list tuple dict set isinstance
     ord repr any all divmod pow map iter next super property ValueError KeyError ZeroDivisionError""".split())
 
+# What the document's interface lists, as far as it has landed.
+INTERFACE = {
+    "errors": """RestError BadNumber BadStretch BadModulus BadPlace BadRests TooGreat TooMany Nothing BadBars BadModuli
+        BadSeen BadLine""",
+    "sieves": "Sieve fits broken rests_of share",
+    "stretches": "count numbered next_one last_one listed nearest_to steps longest_gap longest_run",
+    "rows": "at_distance longest_row counts_by",
+    "lots": "needless smallest_kept idle_rests rests tight without narrowed sure_rest greatest_sure",
+    "barring": "smallest_barring freeing paper shows",
+    "sides": "both as_one within alike first_unlike distance"}
+
 
 def package_files():
     return sorted(PACKAGE.rglob("*.py"))
@@ -62,6 +73,24 @@ class FormTest(unittest.TestCase):
             for node in nodes(path):
                 if isinstance(node, ast.Name) and hasattr(builtins, node.id):
                     self.assertIn(node.id, BUILTINS, (path, node.lineno))
+
+    def test_the_interface_stands_in_its_files(self):
+        for name, listed in INTERFACE.items():
+            body = ast.parse((PACKAGE / f"{name}.py").read_text("utf-8")).body
+            defined = {node.name for node in body if isinstance(node, (ast.FunctionDef, ast.ClassDef))}
+            self.assertLessEqual(set(listed.split()), defined, name)
+
+    def test_no_local_name_is_that_of_an_import(self):
+        for path in package_files():
+            found = nodes(path)
+            imported = {one.name for node in found if isinstance(node, ast.ImportFrom) for one in node.names}
+            local = {node.id for node in found if isinstance(node, ast.Name) and isinstance(node.ctx, ast.Store)}
+            local.update(node.arg for node in found if isinstance(node, ast.arg))
+            self.assertEqual(imported & local, set(), path)
+
+    def test_any_all_and_the_like_take_lists(self):
+        for path in package_files():
+            self.assertEqual([node.lineno for node in nodes(path) if isinstance(node, ast.GeneratorExp)], [], path)
 
     def test_no_floats(self):
         for path in package_files():
